@@ -1,0 +1,1 @@
+"""Partedvalues: values taken apart by patterns."""
