@@ -35,17 +35,28 @@ def inner_place(place, key):
     return ("at", inner_path(place, key))
 
 
+def items_from(place, index):
+    """Return the rest of a row from an index on, also from 0 on."""
+    start = place[2] + index if place[0] == "items" else index
+    return ("items", place[1], start)
+
+
+def others_without(place, fields):
+    """Return a record without some fields, also without none."""
+    left_out = place[2] if place[0] == "others" else ()
+    return ("others", place[1], tuple(sorted(set(left_out) | set(fields))))
+
+
 def rest_of_row(place, index):
     """Return the place of the rest of a row from an index on."""
-    start = place[2] + index if place[0] == "items" else index
-    return ("items", place[1], start) if start > 0 else place
+    rest = items_from(place, index)
+    return rest if rest[2] > 0 else place
 
 
 def rest_of_record(place, fields):
     """Return the place of a record without some fields."""
-    left_out = place[2] if place[0] == "others" else ()
-    names = tuple(sorted(set(left_out) | set(fields)))
-    return ("others", place[1], names) if len(names) > 0 else place
+    rest = others_without(place, fields)
+    return rest if len(rest[2]) > 0 else place
 
 
 def told_path(path):
@@ -70,3 +81,32 @@ def told_place(place):
 def told_look(look):
     """Return how a look is told, whose place is a path."""
     return (look[0], told_path(look[1])) + look[2:]
+
+
+def place_of(told):
+    """Return the place that is told so, in any form, or None if no value can have it.
+
+    A rest from 0 on stays one, and so do the others without no field: they
+    are there only where a row, or a record, is.
+    """
+    word = told[0]
+    if word == "value":
+        return VALUE
+    if word == "result":
+        return result_place(told[1])
+    if word == "known":
+        return told
+    whole = place_of(told[1])
+    rest = "items" if word in ("item", "items") else "others"
+    if whole is None or whole[0] not in ("at", rest):
+        return None
+    if word == "items":
+        return items_from(whole, told[2])
+    if word == "others":
+        return others_without(whole, told[2])
+    return inner_place(whole, told[2])
+
+
+def look_of(told):
+    """Return the look that is told so."""
+    return (told[0], place_of(told[1])[1]) + told[2:]

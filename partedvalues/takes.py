@@ -2,8 +2,9 @@
 
 from partedvalues.copies import fresh
 from partedvalues.errors import TakeEnded
+from partedvalues.outcomes import with_each_place
 from partedvalues.patterns import steps_of
-from partedvalues.places import told_look, told_place
+from partedvalues.places import told_look
 from partedvalues.taking import Taking
 
 
@@ -19,8 +20,8 @@ class Given:
         if number >= len(self.results):
             raise TakeEnded(number)
 
-    def answer(self, look):
-        """Return the answer of a look."""
+    def answer(self, look, answers):
+        """Return the one of the answers that a look has."""
         found = self.found_at(look[1])
         if look[0] == "what":
             return kind_of(found)
@@ -62,13 +63,8 @@ def take(pattern, value, results):
     """Take a value apart; return the calls and the end, with the values themselves."""
     given = Given(value, results)
     taking = Taking(given, pattern.order, pattern.lacks)
-    failure = taking.run(steps_of(pattern))
-    calls = [(name, [given.value_at(place) for place in places]) for name, places in taking.made]
-    if failure is not None:
-        place, why = failure
-        return calls, ("failed", told_place(place), why)
-    pairs = [(name, given.value_at(taking.held[name])) for name in sorted(taking.held)]
-    return calls, ("bound", pairs)
+    taking.run(steps_of(pattern))
+    return with_each_place(taking.outcome(), given.value_at)
 
 
 def looked(pattern, value, results):

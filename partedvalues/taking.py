@@ -11,6 +11,7 @@ from partedvalues.places import (
     rest_of_record,
     rest_of_row,
     result_place,
+    told_place,
 )
 
 
@@ -18,11 +19,14 @@ class Taking:
     """A run of steps over places.
 
     It knows values by the answers of its looks alone, which its source gives:
-    `answer(look)` answers a look, `note_call(number)` hears of a call.
+    `answer(look, answers)` answers a look by one of these answers,
+    `note_call(number)` hears of a call.
 
     `held` tells the places of what is bound, `made` the calls with the places
-    of what they were called with, `looks` the looks with their answers. A
-    failure is a tuple (place, why).
+    of what they were called with, `looks` the looks with their answers,
+    `missed` the names that were read unbound, `begun` the numbers of the
+    defaults that were begun, if they are numbered. A failure is a tuple
+    (place, why).
     """
 
     def __init__(self, source, order, lacks):
@@ -33,21 +37,31 @@ class Taking:
         self.held = {}
         self.made = []
         self.looks = []
+        self.missed = {}
+        self.begun = {}
+        self.failure = None
 
     def run(self, steps):
-        """Do the steps one by one; return None, or the failure that ends them."""
+        """Do the steps one by one, until one fails."""
         for step in steps:
-            failure = self.do_step(step)
-            if failure is not None:
-                return failure
-        return None
+            self.failure = self.do_step(step)
+            if self.failure is not None:
+                return
+
+    def outcome(self):
+        """Return what was done: the calls and the end, with the places by themselves."""
+        calls = [(name, list(places)) for name, places in self.made]
+        if self.failure is not None:
+            place, why = self.failure
+            return calls, ("failed", told_place(place), why)
+        return calls, ("bound", [(name, self.held[name]) for name in sorted(self.held)])
 
     def do_step(self, step):
         """Do a step; return None, or its failure."""
         word, name, inner = step
         if word == "set":
             return self.set_name(name, inner)
-        place = VALUE if name is None else self.held.get(name)
+        place = VALUE if name is None else self.place_of_name(name)
         if place is None:
             return STEP, ("unbound", name)
         if word == "take":
@@ -125,12 +139,22 @@ class Taking:
                 return failure
         return None
 
+    def place_of_name(self, name):
+        """Return the place of what a name is bound to, or None."""
+        place = self.held.get(name)
+        if place is None:
+            self.missed[name] = True
+        return place
+
     def work_out(self, term):
         """Return a tuple (place, name); the place is None if the name that was read is not bound."""
         if term[0] == "number":
             return known_place(term[1]), None
         if term[0] == "read":
-            return self.held.get(term[1]), term[1]
+            return self.place_of_name(term[1]), term[1]
+        if term[0] == "numbered":
+            self.begun[term[1]] = True
+            return self.work_out(term[2])
         places = []
         for inner in term[2]:
             place, missing = self.work_out(inner)
@@ -161,9 +185,10 @@ class Taking:
 
     def ask(self, look):
         """Return the answer of a look, which is made only if the answer does not follow."""
-        answer = self.facts.follows(look)
-        if answer is None:
-            answer = self.source.answer(look)
-            self.facts.learn(look, answer)
-            self.looks.append((look, answer))
+        answers = self.facts.answers(look)
+        if len(answers) == 1:
+            return answers[0]
+        answer = self.source.answer(look, answers)
+        self.facts.learn(look, answer)
+        self.looks.append((look, answer))
         return answer

@@ -19,6 +19,37 @@ The examples of the section on changes, as far as they take values apart:
 >>> strict = Program([("cases", None, [("row", [], None)]), ("take", "c", ("any",))], "soon", "absent")
 >>> [take(strict, 5, []), take(strict, [], [])]
 [([], ('failed', ('value',), 'cases')), ([], ('failed', ('step',), ('unbound', 'c')))]
+
+Trees:
+
+>>> from partedvalues.patterns import Pattern
+>>> from partedvalues.trees import ends, judge, tree, walk
+>>> plain = Pattern(("row", [(("name", "a"), ("number", 4))], None), "soon", "absent")
+>>> [tree(plain)[1], [way[0] for way in tree(plain)[2]], ends(tree(plain)), walk(tree(plain), [], []), judge(plain, tree(plain)), judge(plain, ("end", ([], ("bound", []))))]
+[('what', ('value',)), ['integer', 'none', 'record', 'row'], 5, ([], ('bound', [('a', ('known', 4))])), True, False]
+
+Comparisons:
+
+>>> from partedvalues.compare import alike, idle, lacks_alike, may_change_places, orders_alike, unbound
+>>> from partedvalues.patterns import Pattern
+>>> two = Pattern(("record", [("x", ("name", "a"), ("call", "f", [])), ("y", ("name", "b"), ("call", "g", []))], None), "soon", "absent")
+>>> [orders_alike(two), may_change_places(two, 0), lacks_alike(two), unbound(two), idle(two)]
+[True, False, False, [], []]
+>>> back = Pattern(("record", [("x", ("name", "a"), ("read", "b")), ("y", ("name", "b"), None)], None), "soon", "absent")
+>>> [orders_alike(back), unbound(back), unbound(back.with_order("late")), alike(back, back.with_order("late")), may_change_places(back, 0)]
+[False, ['b'], [], False, False]
+
+Fewest looks:
+
+>>> from partedvalues.fewest import depth, fewest, shallow
+>>> from partedvalues.patterns import Pattern, Program
+>>> from partedvalues.trees import judge, tree
+>>> both = Pattern(("record", [("x", ("any",), ("number", 1)), ("y", ("name", "a"), ("number", 2))], None), "soon", "absent")
+>>> [depth(tree(both)), fewest(both), depth(shallow(both)), judge(both, shallow(both)), fewest(Program([("set", "a", ("number", 1))], "soon", "absent"))]
+[3, 2, 2, True, 0]
+>>> rest = Pattern(("row", [(("any",), ("number", 0))], "r"), "soon", "absent")
+>>> [depth(tree(rest)), fewest(rest)]
+[2, 1]
 """
 
 import doctest
@@ -32,11 +63,11 @@ README = pathlib.Path(__file__).resolve().parent.parent / "README.md"
 class ExamplesTest(unittest.TestCase):
     def test_examples(self):
         ended = doctest.testmod(sys.modules[__name__])
-        self.assertEqual((ended.failed, ended.attempted), (0, 12))
+        self.assertEqual((ended.failed, ended.attempted), (0, 29))
 
     def test_examples_of_the_readme(self):
         ended = doctest.testfile(str(README), module_relative=False)
-        self.assertEqual((ended.failed, ended.attempted), (0, 10))
+        self.assertEqual((ended.failed, ended.attempted), (0, 20))
 
 
 if __name__ == "__main__":

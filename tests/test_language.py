@@ -20,6 +20,15 @@ NODES_BARRED = (ast.AsyncFunctionDef, ast.AsyncFor, ast.AsyncWith, ast.Await, as
 WORDS_BARRED = re.compile(r"\b(type|typing|enum|Enum|Flag|Generic|Protocol|ABC|namedtuple|mro|elements|open|input|law|"
                           r"register|eval|exec|globals|locals|vars|dir)\b|dataclass|overload|contextmanager|_wall")
 METHODS = {"__init__", "__eq__", "__repr__", "__str__", "__len__", "__call__", "__iter__"}
+# The functions of the interface that have been built, with their arguments.
+INTERFACE = {
+    "takes": {"take": "pattern value results", "looked": "pattern value results"},
+    "trees": {"tree": "pattern", "walk": "told value results", "judge": "pattern told", "ends": "told"},
+    "compare": {"alike": "one other", "first_unlike": "one other", "parting": "one other", "orders_alike": "pattern",
+                "lacks_alike": "pattern", "unbound": "pattern", "idle": "pattern",
+                "may_change_places": "pattern index"},
+    "fewest": {"depth": "told", "fewest": "pattern", "shallow": "pattern"},
+}
 MODULE_LEVEL = (ast.Import, ast.ImportFrom, ast.FunctionDef, ast.ClassDef, ast.Assign, ast.Expr)
 
 
@@ -126,6 +135,42 @@ class LanguageTest(unittest.TestCase):
                         self.assertIsNone(WORDS_BARRED.search(word), (path, node.lineno, word))
                 if isinstance(node, ast.Constant) and isinstance(node.value, str) and node not in told:
                     self.assertNotIn("%", node.value, path)
+
+    def test_functions_of_the_interface_stand_in_their_files(self):
+        for stem, functions in INTERFACE.items():
+            found = {node.name: " ".join(arg.arg for arg in node.args.args)
+                     for node in tree_of(PACKAGE / (stem + ".py")).body if isinstance(node, ast.FunctionDef)}
+            for name, arguments in functions.items():
+                self.assertEqual(found.get(name), arguments, (stem, name))
+
+    def test_imports_are_used_and_keep_their_names(self):
+        for path in FILES:
+            tree = tree_of(path)
+            imports = {alias.name for node in tree.body if isinstance(node, ast.ImportFrom) for alias in node.names}
+            classes = {node.name for node in tree.body if isinstance(node, ast.ClassDef)}
+            used = {node.id for node in ast.walk(tree) if isinstance(node, ast.Name)}
+            self.assertLessEqual(imports, used, path)
+            for node in ast.walk(tree):
+                if isinstance(node, ast.arg):
+                    self.assertNotIn(node.arg, imports | classes, (path, node.lineno))
+                if isinstance(node, ast.Name) and not isinstance(node.ctx, ast.Load):
+                    self.assertNotIn(node.id, imports | classes, (path, node.lineno))
+
+    def test_no_generator_expressions(self):
+        # Patterns compare by ==, so that `any`, `all` and the like take lists.
+        for path in FILES:
+            for node in ast.walk(tree_of(path)):
+                self.assertNotIsInstance(node, ast.GeneratorExp, (path, getattr(node, "lineno", None)))
+
+    def test_no_name_is_a_method_and_an_attribute(self):
+        methods, attributes = set(), set()
+        for path in FILES:
+            for node in ast.walk(tree_of(path)):
+                if isinstance(node, ast.ClassDef):
+                    methods |= {each.name for each in node.body if isinstance(each, ast.FunctionDef)}
+                if isinstance(node, ast.Attribute) and isinstance(node.ctx, ast.Store):
+                    attributes.add(node.attr)
+        self.assertEqual(methods & attributes, set())
 
     def test_is_stands_with_constants(self):
         for path in FILES:
