@@ -48,11 +48,11 @@ def settled_others(place, facts):
 
 def known_items(path, start, facts):
     """Return the list of a row's items from an index on, or None if the answers leave a choice."""
-    most = facts.most.get(path)
-    if most is None or (start < most and facts.least.get(path, 0) < most):
+    if path not in facts.most:
         return None
     known = []
-    for index in range(start, most):
+    # An item that may not be there has not been looked at, and is not known.
+    for index in range(start, facts.most[path]):
         place = settled_path(path + (index,), facts)
         if place[0] != "known":
             return None

@@ -166,6 +166,21 @@ class AlikeTest(CompareCase):
         at_x = field(item(VALUE, 0), "x")
         self.assertIn((("what", at_x), "row"), first_unlike(one, other))
 
+    def test_values_that_part_what_looks_alike(self):
+        # The number of the term must not stand in the value, and rests must not happen to be alike.
+        for worth in range(4):
+            self.check_unlike(steps(put("a", number(worth))), soon(name("a")))
+            self.check_unlike(soon(row(name("a")), "nothing"), soon(row([name("a"), number(worth)]), "nothing"))
+        for rests in (("a", "b"), ("b", "a")):
+            one, other = [[row(ANY, rest=rest) for rest in (first, second)]
+                          for first, second in (rests, rests[::-1])]
+            self.check_unlike(soon(row(*one)), soon(row(*other)))
+            one, other = [[record(("x", ANY), rest=rest) for rest in (first, second)]
+                          for first, second in (rests, rests[::-1])]
+            self.check_unlike(soon(row(*one)), soon(row(*other)))
+            one, other = [[row(rest=rest) for rest in (first, second)] for first, second in (rests, rests[::-1])]
+            self.check_unlike(soon(row(*one)), soon(row(*other)))
+
     def test_lists_are_new(self):
         one, other = late(TWO), late(row([ANY, number(1)], rest="r"))
         self.check_new(parting(one, other), parting(one, other))

@@ -1,9 +1,12 @@
 """The interface of `fewest`: depths of trees, and the fewest looks."""
 
+import itertools
 import unittest
 
+from partedvalues.facts import Facts
 from partedvalues.fewest import depth, fewest, shallow
 from partedvalues.patterns import Pattern, Program
+from partedvalues.searching import common_place
 from partedvalues.trees import ends, judge, tree
 from tests.shapes import (ANY, LACKS, ORDERS, VALUE, ShapeCase, bound, call, failed, item, name, number, read, record,
                           row)
@@ -126,6 +129,20 @@ class FewestTest(ShapeCase):
         self.assertEqual(depth(shallow(pattern)), 2)
         self.assertEqual(ends(shallow(pattern)), 5)
 
+    def test_lists_of_failed_places_are_new(self):
+        # One end of the tree's own stands at several ends, as `what` stands for `none`.
+        steps = [("take", None, record(("y", name("b"), call("f")), rest="a")), ("take", "a", row())]
+        program = Program(steps, "soon", "nothing")
+        self.check_new(self.check_fewest(program, 3), shallow(program))
+
+    def test_a_place_that_is_known_in_some_ways_alone(self):
+        # Where x is None, y need not be looked at: None is what it takes, and also its default.
+        steps = [("take", None, record(("x", name("q")), ("y", name("a"), read("q")))),
+                 ("take", None, record(("x", name("z"), call("f")))), ("take", "z", row())]
+        program = Program(steps, "soon", "nothing")
+        self.assertEqual(depth(tree(program)), 6)
+        self.check_fewest(program, 5)
+
     def test_depth_of_own_trees_of_many_orders(self):
         part = record(("x", name("a"), read("b")), ("y", name("b"), call("f")))
         for order in ORDERS:
@@ -137,6 +154,38 @@ class FewestTest(ShapeCase):
     def test_places_are_told_by_the_answers(self):
         told = self.check_fewest(soon(row([name("a"), number(1)], rest="r"), "nothing"), 3)
         self.assertEqual(dict(dict(told[2])["row"][2])[True][1], ("what", item(VALUE, 0)))
+
+
+class CommonPlaceTest(ShapeCase):
+    """The one place that stands for several, whatever their sequence."""
+
+    def check_common(self, want, *pairs):
+        for found in itertools.permutations(pairs):
+            self.assertEqual(common_place(list(found)), want)
+
+    def test_common_places(self):
+        path, one, two = ("value",), ("at", ("value", "x")), ("at", ("value", "y"))
+        whole = Facts().with_answer(("what", path), "record")
+        has_x, has_y = [whole.with_answer(("has", path, key), True) for key in "xy"]
+        only_x = has_x.with_answer(("has", path, "y"), False)
+        both = has_x.with_answer(("has", path, "y"), True)
+        no_x = has_y.with_answer(("has", path, "x"), False)
+        without = [("others", path, names) for names in (("x",), ("y",), ("x", "y"))]
+        self.check_common(without[2], (only_x, without[0]), (both, without[2]), (no_x, without[1]))
+        self.check_common(None, (both, without[0]), (both, without[2]))
+        null = both.with_answer(("what", one[1]), "none")
+        self.check_common(one, (null, ("known", None)), (both, one))
+        self.check_common(None, (null, two), (both, one))
+        self.check_common(None, (null, ("known", 1)), (both, one))
+
+    def test_common_rests(self):
+        path = ("value",)
+        whole = Facts().with_answer(("what", path), "row")
+        empty, filled = [whole.with_answer(("has", path, 0), answer) for answer in (False, True)]
+        rest = ("items", path, 1)
+        self.check_common(rest, (empty, ("at", path)), (filled, rest))
+        self.check_common(("at", path), (empty, ("known", [])), (filled, ("at", path)), (empty, rest))
+        self.check_common(None, (filled, ("at", path)), (filled, rest))
 
 
 if __name__ == "__main__":
