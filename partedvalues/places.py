@@ -5,8 +5,9 @@ indexes and field names that lead from there inwards. It is flat so that it
 can be the key of a dict however deep it leads.
 
 A place is ("at", path); ("items", path, index), the rest of a row;
-("others", path, names), a record without some fields; ("known", number);
-or ("step",), where a step itself fails.
+("others", path, names), a record without some fields; ("known", value), a
+number of a term, or what answers leave no choice of; or ("step",), where a
+step itself fails.
 """
 
 VALUE = ("at", ("value",))
@@ -36,13 +37,13 @@ def inner_place(place, key):
 
 
 def items_from(place, index):
-    """Return the rest of a row from an index on, also from 0 on."""
+    """Return the place of the rest of a row from an index on, as a rest even from 0 on."""
     start = place[2] + index if place[0] == "items" else index
     return ("items", place[1], start)
 
 
 def others_without(place, fields):
-    """Return a record without some fields, also without none."""
+    """Return the place of a record without some fields, as others even of no field."""
     left_out = place[2] if place[0] == "others" else ()
     return ("others", place[1], tuple(sorted(set(left_out) | set(fields))))
 

@@ -21,7 +21,7 @@ class Given:
             raise TakeEnded(number)
 
     def answer(self, look, answers):
-        """Return the one of the answers that a look has."""
+        """Return the answer that a look has, which is one of these answers."""
         found = self.found_at(look[1])
         if look[0] == "what":
             return kind_of(found)
