@@ -5,29 +5,28 @@ from partedvalues.errors import InvalidPart, UnknownPlace
 from partedvalues.facts import Facts
 from partedvalues.growing import ends_within, grown, takings_in, thin_tree
 from partedvalues.numbering import numbered_steps
-from partedvalues.outcomes import settled_outcome
+from partedvalues.outcomes import are_alike
 from partedvalues.patterns import Pattern, Program, steps_of
 from partedvalues.takes import looked
 
 
 def unlike_ends(one, other):
-    """Return a tuple (facts, outcomes) with which two patterns do unlike things, or None."""
-    node = thin_tree(other)
-    for facts, outcome in ends_within(thin_tree(one), Facts()):
-        for more, second in ends_within(node, facts):
-            if settled_outcome(outcome, more) != settled_outcome(second, more):
+    """Return a tuple (facts, outcomes) with which two thin trees end in unlike ways, or None."""
+    for facts, outcome in ends_within(one, Facts()):
+        for more, second in ends_within(other, facts):
+            if not are_alike(outcome, second, more):
                 return more, [outcome, second]
     return None
 
 
 def alike(one, other):
     """Tell whether two patterns do the same for all values and functions."""
-    return unlike_ends(one, other) is None
+    return unlike_ends(thin_tree(one), thin_tree(other)) is None
 
 
 def parting(one, other):
     """Return a tuple (value, results) with which two patterns do unlike things, or None."""
-    found = unlike_ends(one, other)
+    found = unlike_ends(thin_tree(one), thin_tree(other))
     if found is None:
         return None
     facts, outcomes = found

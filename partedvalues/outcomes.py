@@ -39,6 +39,11 @@ def settled_outcome(outcome, facts):
     return with_each_place(outcome, lambda place: settled(place, facts))
 
 
+def are_alike(one, other, facts):
+    """Tell whether two outcomes are the same for all values and results that answer so."""
+    return one == other or settled_outcome(one, facts) == settled_outcome(other, facts)
+
+
 def told_outcome(outcome, facts):
     """Return how an outcome is told by the answers, in new lists."""
     return fresh(with_each_place(outcome, lambda place: told_place(settled(place, facts))))

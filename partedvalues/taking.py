@@ -25,8 +25,9 @@ class Taking:
     `held` tells the places of what is bound, `made` the calls with the places
     of what they were called with, `looks` the looks with their answers,
     `missed` the names that were read unbound, `begun` the numbers of the
-    defaults that were begun, if they are numbered. A failure is a tuple
-    (place, why).
+    defaults that were begun, if they are numbered, `reached` the index of the
+    step that was begun last, `taken` for each `cases` step that was done the
+    index of the case that was taken. A failure is a tuple (place, why).
     """
 
     def __init__(self, source, order, lacks):
@@ -39,22 +40,28 @@ class Taking:
         self.looks = []
         self.missed = {}
         self.begun = {}
+        self.reached = None
+        self.taken = {}
         self.failure = None
 
     def run(self, steps):
         """Do the steps one by one, until one fails."""
-        for step in steps:
+        for index, step in enumerate(steps):
+            self.reached = index
             self.failure = self.do_step(step)
             if self.failure is not None:
                 return
 
+    def so_far(self):
+        """Return the calls and what is bound up to now, as an outcome that has not failed."""
+        return list(self.made), ("bound", [(name, self.held[name]) for name in sorted(self.held)])
+
     def outcome(self):
         """Return what was done: the calls and the end, with the places by themselves."""
-        calls = [(name, list(places)) for name, places in self.made]
-        if self.failure is not None:
-            place, why = self.failure
-            return calls, ("failed", told_place(place), why)
-        return calls, ("bound", [(name, self.held[name]) for name in sorted(self.held)])
+        if self.failure is None:
+            return self.so_far()
+        place, why = self.failure
+        return self.so_far()[0], ("failed", told_place(place), why)
 
     def do_step(self, step):
         """Do a step; return None, or its failure."""
@@ -79,8 +86,9 @@ class Taking:
     def try_cases(self, parts, place):
         """Take a place by the first part that does not fail; return None, or the failure."""
         ahead = dict(self.held)
-        for part in parts:
+        for case, part in enumerate(parts):
             if self.take_part(part, place) is None:
+                self.taken[self.reached] = case
                 return None
             self.held = dict(ahead)
         return place, "cases"

@@ -4,7 +4,7 @@ from partedvalues.copies import fresh
 from partedvalues.errors import InvalidAnswer, TakeEnded, UnknownPlace
 from partedvalues.facts import Facts, kind_with
 from partedvalues.growing import ends_within, grown, thin_tree
-from partedvalues.outcomes import outcome_of, settled_outcome, told_outcome
+from partedvalues.outcomes import are_alike, outcome_of, told_outcome
 from partedvalues.places import look_of, told_look
 from partedvalues.takes import kind_of
 
@@ -95,7 +95,7 @@ def leads_right(told, facts, node):
 def is_right(outcome, facts, node):
     """Tell whether an outcome is, for all values with some facts, what a thin tree tells."""
     for more, other in ends_within(node, facts):
-        if settled_outcome(outcome, more) != settled_outcome(other, more):
+        if not are_alike(outcome, other, more):
             return False
     return True
 

@@ -20,14 +20,32 @@ NODES_BARRED = (ast.AsyncFunctionDef, ast.AsyncFor, ast.AsyncWith, ast.Await, as
 WORDS_BARRED = re.compile(r"\b(type|typing|enum|Enum|Flag|Generic|Protocol|ABC|namedtuple|mro|elements|open|input|law|"
                           r"register|eval|exec|globals|locals|vars|dir)\b|dataclass|overload|contextmanager|_wall")
 METHODS = {"__init__", "__eq__", "__repr__", "__str__", "__len__", "__call__", "__iter__"}
-# The functions of the interface that have been built, with their arguments.
+# The functions and classes of the interface, with their arguments and methods.
 INTERFACE = {
     "takes": {"take": "pattern value results", "looked": "pattern value results"},
     "trees": {"tree": "pattern", "walk": "told value results", "judge": "pattern told", "ends": "told"},
     "compare": {"alike": "one other", "first_unlike": "one other", "parting": "one other", "orders_alike": "pattern",
                 "lacks_alike": "pattern", "unbound": "pattern", "idle": "pattern",
                 "may_change_places": "pattern index"},
+    "changes": {"needless": "program", "least_sets": "program", "may_exchange": "program index",
+                "surely_binds": "program", "fails": "program", "untaken": "program",
+                "may_swap": "program step case", "left_over": "program step"},
     "fewest": {"depth": "told", "fewest": "pattern", "shallow": "pattern"},
+    "texts": {"show_program": "program", "show_pattern": "pattern"},
+    "readings": {"read_pattern": "text", "read_program": "text"},
+}
+CLASSES = {
+    "patterns": {
+        "Pattern": {"__init__": "self part order lacks", "part": "self", "order": "self", "lacks": "self",
+                    "names": "self", "with_order": "self order", "__len__": "self", "__eq__": "self other"},
+        "Program": {"__init__": "self steps order lacks", "steps": "self", "order": "self", "lacks": "self",
+                    "names": "self", "with_order": "self order", "without": "self index", "exchanged": "self index",
+                    "__len__": "self", "__eq__": "self other"},
+    },
+    "matchers": {
+        "Matcher": {"__init__": "self pattern", "asks": "self", "__call__": "self answer", "done": "self",
+                    "calls": "self", "bound": "self", "undo": "self", "__len__": "self", "__eq__": "self other"},
+    },
 }
 MODULE_LEVEL = (ast.Import, ast.ImportFrom, ast.FunctionDef, ast.ClassDef, ast.Assign, ast.Expr)
 
@@ -142,6 +160,15 @@ class LanguageTest(unittest.TestCase):
                      for node in tree_of(PACKAGE / (stem + ".py")).body if isinstance(node, ast.FunctionDef)}
             for name, arguments in functions.items():
                 self.assertEqual(found.get(name), arguments, (stem, name))
+
+    def test_methods_of_the_interface_stand_in_their_classes(self):
+        for stem, classes in CLASSES.items():
+            found = {node.name: node for node in tree_of(PACKAGE / (stem + ".py")).body
+                     if isinstance(node, ast.ClassDef)}
+            for name, methods in classes.items():
+                told = {each.name: " ".join(arg.arg for arg in each.args.args) for each in found[name].body
+                        if isinstance(each, ast.FunctionDef)}
+                self.assertEqual({method: told.get(method) for method in methods}, methods, name)
 
     def test_imports_are_used_and_keep_their_names(self):
         for path in FILES:
