@@ -1,7 +1,7 @@
 """Patterns and programs, read from their texts."""
 
 from partedvalues.checks import LETTERS, LONGEST_NAME
-from partedvalues.errors import DoubleField, Unreadable
+from partedvalues.errors import Unreadable
 from partedvalues.patterns import Pattern, Program
 from partedvalues.texts import SIGNS
 
@@ -16,10 +16,7 @@ def read_pattern(text):
     reader.expect(" ")
     part = reader.read_part()
     reader.expect_end()
-    try:
-        return Pattern(part, order, lacks)
-    except DoubleField:
-        raise Unreadable(text) from None
+    return Pattern(part, order, lacks)
 
 
 def read_program(text):
@@ -29,10 +26,7 @@ def read_program(text):
     reader.expect(":")
     steps = reader.read_steps()
     reader.expect_end()
-    try:
-        return Program(steps, order, lacks)
-    except DoubleField:
-        raise Unreadable(text) from None
+    return Program(steps, order, lacks)
 
 
 class Reader:
@@ -138,7 +132,14 @@ class Reader:
             else:
                 entries.append(self.read_entry(word))
                 more = self.goes_on(closing)
+        if word == "record":
+            self.check_fields(entries)
         return (word, entries, rest)
+
+    def check_fields(self, entries):
+        """Check that no field stands twice, as no record part has such fields."""
+        if len({entry[0] for entry in entries}) < len(entries):
+            raise Unreadable(self.text)
 
     def goes_on(self, closing):
         """Pass over a comma, or else over a closing bracket; tell whether it was a comma."""

@@ -171,7 +171,8 @@ class Taking:
             places.append(place)
         number = len(self.made)
         self.source.note_call(number)
-        self.made.append((term[1], places))
+        # A tuple, as a great many takings are kept at once, and tuples are kept at less cost.
+        self.made.append((term[1], tuple(places)))
         return result_place(number), None
 
     def kind_at(self, place):
